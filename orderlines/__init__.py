@@ -1,0 +1,1 @@
+"""Orders as text: a map, the units on it, and their orders."""
