@@ -1,7 +1,7 @@
 """The calls that make the map and set units on it; each gives its one number."""
 
 from orderlines.refusals import FULL, MISSING, OUT_OF_RANGE, TAKEN, UNFIT
-from orderlines.state import COAST, LAND, SEA, Province, Unit, link_between
+from orderlines.state import ARMY, COAST, FLEET, LAND, SEA, Province, Unit, is_power, link_between
 from orderlines.words import is_name, is_shore_name, is_short_name, is_text, words_of
 
 LONGEST_TEXT = 40
@@ -11,7 +11,6 @@ MOST_SEA_LINKS = 300
 MOST_UNITS = 24
 FEWEST_SHORES = 2
 MOST_SHORES = 4
-LAST_POWER = 6
 
 
 def are_fitting_shores(kind, shores):
@@ -69,13 +68,13 @@ def add_sea_link(table, p, s, q, t):
 
 
 def can_stand(table, fleet, p, s):
-    if fleet == 1:
+    if fleet == FLEET:
         return not table.has_kind(p, LAND)
     return not table.has_kind(p, SEA) and s == 0
 
 
 def add_unit(table, power, fleet, p, s):
-    if not (0 <= power <= LAST_POWER and fleet in (0, 1) and table.has_shore(p, s)):
+    if not (is_power(power) and fleet in (ARMY, FLEET) and table.has_shore(p, s)):
         return OUT_OF_RANGE
     if not can_stand(table, fleet, p, s):
         return UNFIT

@@ -1,8 +1,21 @@
-"""What a table has: provinces, the links between them, and units."""
+"""What a table has: provinces, the links between them, and units with their orders."""
 
 LAND = 0
 SEA = 1
 COAST = 2
+
+ARMY = 0
+FLEET = 1
+
+LAST_POWER = 6
+
+# An order is kept as the four numbers that are answered; what stands behind the first:
+# province, shore and 1 if by water of a move; province of a support; from and to of the others; else 0.
+HOLDING = 0
+MOVE = 1
+SUPPORT = 2
+SUPPORT_OF_MOVE = 3
+CARRYING = 4
 
 HOLD = (0, 0, 0, 0)
 
@@ -20,6 +33,9 @@ class Province:
 
     def is_called(self, word):
         return word == self.name or word == self.short_name
+
+    def has_beginning(self, word):
+        return self.name[:len(word)] == word
 
 
 class Unit:
@@ -53,6 +69,28 @@ class Table:
 
     def has_name(self, word):
         return any([province.is_called(word) for province in self.provinces])
+
+    def provinces_meant(self, word):
+        called = [p for p, province in enumerate(self.provinces) if province.is_called(word)]
+        if len(called) > 0 or len(word) == 0:
+            return called
+        return [p for p, province in enumerate(self.provinces) if province.has_beginning(word)]
+
+    def has_land_link(self, p, q):
+        return link_between(p, q) in self.land_links
+
+    def has_sea_link(self, place, other_place):
+        return link_between(place, other_place) in self.sea_links
+
+    def linked_shores(self, place, q):
+        return [t for t in range(self.provinces[q].count_shores()) if self.has_sea_link(place, (q, t))]
+
+    def provinces_with_units(self):
+        return sorted(self.units)
+
+
+def is_power(number):
+    return 0 <= number <= LAST_POWER
 
 
 def link_between(one, other):

@@ -1,8 +1,11 @@
 """The answers to a list of calls on one new table."""
 
 from orderlines.building import add_land_link, add_province, add_sea_link, add_unit, remove_unit
+from orderlines.printing import print_orders
 from orderlines.reader import Reader
+from orderlines.reading import read_text
 from orderlines.state import Table
+from orderlines.telling import find_provinces, tell_order, tell_orders
 
 CLEAR = 0
 PROVINCE = 1
@@ -10,6 +13,11 @@ LAND_LINK = 2
 SEA_LINK = 3
 MAN = 4
 GONE = 5
+READ = 6
+PRINTED = 7
+ORDER = 8
+FIND = 9
+ORDERS = 10
 
 
 class UnknownCall(ValueError):
@@ -39,6 +47,11 @@ def answer_man(table, reader):
     return [add_unit(table, given[0], given[1], given[2], given[3])]
 
 
+def answer_read(table, reader):
+    power = reader.take_number()
+    return read_text(table, power, reader.take_row())
+
+
 def answer_call(table, reader):
     call = reader.take_number()
     if call == CLEAR:
@@ -54,6 +67,16 @@ def answer_call(table, reader):
         return answer_man(table, reader)
     if call == GONE:
         return [remove_unit(table, reader.take_number())]
+    if call == READ:
+        return answer_read(table, reader)
+    if call == PRINTED:
+        return print_orders(table, reader.take_number())
+    if call == ORDER:
+        return tell_order(table, reader.take_number())
+    if call == FIND:
+        return find_provinces(table, reader.take_row())
+    if call == ORDERS:
+        return tell_orders(table)
     raise UnknownCall(f"no call has the number {call}")
 
 

@@ -2,9 +2,9 @@
 
 import unittest
 
-from call_lists import COAST, FLEET, SEA, CallsTest, clear, gone, joined, land, man, province, sea
-from orderlines.building import add_province, add_unit
-from orderlines.state import Table
+from call_lists import (
+    COAST, FLEET, SEA, CallsTest, clear, find, gone, joined, land, man, order, orders, printed, province, read, sea,
+)
 from orderlines.table import UnknownCall, answers
 
 # Kiel, Berlin with two shores, and the Baltic, written out as they lie in the list.
@@ -19,7 +19,7 @@ class WrittenOut(unittest.TestCase):
         self.assertEqual(answers(KIEL), [1, 0])
         self.assertEqual(answers([5, 0]), [1, -1])
 
-    def test_all_six_calls(self):
+    def test_the_six_calls_that_build(self):
         berlin = BERLIN[:13] + [3, 110, 32, 101]
         calls = KIEL + berlin + BALTIC + [2, 0, 1, 3, 1, 1, 2, 0, 4, 6, 1, 1, 1, 5, 1, 5, 1, 0, 5, 1]
         self.assertEqual(answers(calls), [1, 0, 1, 1, 1, 2, 1, 0, 1, 0, 1, 0, 1, 0, 1, -5, 1, 0, 1, -1])
@@ -51,8 +51,9 @@ class WrittenOut(unittest.TestCase):
         self.assertEqual(answers(calls), [1, -3] * 128)
 
     def test_no_such_call(self):
-        with self.assertRaises(UnknownCall):
-            answers([11])
+        for number in (-1, 11, 12):
+            with self.assertRaises(UnknownCall):
+                answers([number])
 
 
 class FirstCalls(CallsTest):
@@ -65,6 +66,11 @@ class FirstCalls(CallsTest):
         self.check((sea(0, 0, 1, 0), -1))
         self.check((man(0, 0, 0, 0), -1))
         self.check((gone(0), -1))
+        self.check((read(0, ""), [0, 0]))
+        self.check((printed(0), [0]))
+        self.check((order(0), -1))
+        self.check((find("Kie"), [0]))
+        self.check((orders(), [0]))
 
 
 class NothingIsKept(CallsTest):
@@ -90,24 +96,6 @@ class NothingIsKept(CallsTest):
         before = list(calls)
         answers(calls)
         self.assertEqual(calls, before)
-
-
-class Kept(unittest.TestCase):
-    """What no answer shows yet: the table keeps it for the calls that tell it."""
-
-    def setUp(self):
-        self.table = Table()
-        add_province(self.table, COAST, list(b"Berlin"), list(b"Ber"), list(b"  n  e s "))
-
-    def test_a_province_has_what_was_told(self):
-        there = self.table.provinces[0]
-        self.assertEqual((there.kind, there.name, there.short_name), (COAST, tuple(b"Berlin"), tuple(b"Ber")))
-        self.assertEqual(list(there.shores), [tuple(b"n"), tuple(b"e"), tuple(b"s")])
-
-    def test_a_unit_has_what_was_told_and_holds(self):
-        self.assertEqual(add_unit(self.table, 4, FLEET, 0, 2), 0)
-        unit = self.table.units[0]
-        self.assertEqual((unit.power, unit.fleet, unit.shore, unit.order), (4, FLEET, 2, (0, 0, 0, 0)))
 
 
 if __name__ == "__main__":

@@ -71,12 +71,21 @@ class Language(unittest.TestCase):
         for place, node in nodes(ast.Assign):
             self.assertEqual(len(node.targets), 1, place)
             self.assertNotIsInstance(node.targets[0], ast.Tuple, place)
+        for place, node in nodes((ast.FunctionDef, ast.ClassDef, ast.If, ast.For, ast.While)):
+            for inner in node.body:
+                if isinstance(inner, ast.Expr):
+                    self.assertIsInstance(inner.value, ast.Call, place)
+        for path in FILES:
+            for node in ast.parse(path.read_text()).body:
+                if isinstance(node, ast.Assign):
+                    ast.literal_eval(node.value)
 
     def test_expressions(self):
         for place, node in nodes(OUTSIDE):
             self.fail(place)
         for place, node in nodes(ast.Constant):
             self.assertIn(type(node.value), (int, str, bool, type(None)), place)
+            self.assertNotIn("%", str(node.value), place)
         for place, node in nodes(ast.ListComp):
             self.assertEqual(len(node.generators), 1, place)
             self.assertLessEqual(len(node.generators[0].ifs), 1, place)
